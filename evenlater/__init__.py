@@ -1,0 +1,1 @@
+"""Deals of moves that come out exactly even; README.md tells how to use the modules."""

@@ -1,0 +1,181 @@
+"""Every function of the interface with its parameters, and good and bad values for each kind of parameter."""
+
+from importlib import import_module
+
+from samples import DEEP_LIST, DEEP_TUPLE, JUNK, divisors, drawn_move, dice, edge, moves, size, turns
+
+NO_INTEGER = [None, True, False, "1", "", (), (1,), [1], DEEP_TUPLE, DEEP_LIST]
+
+# the stated calls: module, function, then each parameter behind the clock with its kind
+STAGE_1 = """
+numbers power base:integer many:number
+numbers common_of one:integer other:integer
+numbers primes_of number:counted
+numbers divisors_of number:counted
+numbers units_many number:counted
+numbers is_square_free number:counted
+quotients quotient_of top:integer bottom:nonzero
+quotients plus one:quotient other:quotient
+quotients minus one:quotient other:quotient
+quotients times one:quotient other:quotient
+quotients over one:quotient other:divider
+quotients compare one:quotient other:quotient
+quotients sum_up quotients:quotients
+kinds is_integer thing:thing
+kinds is_number thing:thing
+kinds is_quotient thing:thing
+kinds is_clock thing:thing
+kinds is_move clock thing:thing
+kinds is_moves clock thing:thing
+kinds is_piece clock thing:thing
+kinds is_part clock thing:thing
+clockchecker lets_clock thing:clock_thing
+sizes moves_many clock
+sizes turns_many clock
+sizes does_move clock mover:mover prime:prime
+sizes edge_of clock a:a
+sizes last_edge clock
+moving factor_at clock turn:turn
+moving then clock one:move other:move
+moving back_of clock move:move
+moving moved_times clock move:move many:integer
+moving turned_by clock move:move by:move
+moving takes clock move:move beat:beat
+moving number_of clock move:move
+moving move_at clock number:place
+moving all_moves clock
+moving order_of clock move:move
+classes class_of clock move:move
+classes classes_of clock
+clockparts part_moves clock part:part
+clockparts in_part clock part:part move:move
+clockparts part_size clock part:part
+clockparts is_kept clock part:part
+clockparts parts_of clock
+clockparts kept_parts clock
+clockparts coset_of clock part:part move:move
+clockparts cosets_of clock part:part
+leastparts least_part clock moves:moves
+leastparts common_part clock one:part other:part
+leastparts turned_part clock part:part by:move
+folding folded_clock clock part:kept
+folding folded_move clock part:kept move:move
+clocktexts clock_line clock
+clocktexts read_clock text:clock_text
+"""
+
+
+class Call:
+    """One function of the interface, as the document tells it."""
+
+    def __init__(self, line):
+        words = line.split()
+        self.module, self.name = words[:2]
+        self.needs_clock = "clock" in words[2:]
+        self.params = [tuple(word.split(":")) for word in words[2:] if ":" in word]
+        self.function = getattr(import_module("evenlater." + self.module), self.name)
+
+    def all_params(self):
+        return (["clock"] if self.needs_clock else []) + [name for name, _ in self.params]
+
+    def first(self, clock):
+        return [clock] if self.needs_clock else []
+
+    def good_lists(self, clock):
+        return [GOOD[kind](clock) for _, kind in self.params]
+
+    def good_rows(self, clock):
+        """Rows of good values: each parameter goes through its own."""
+        lists = self.good_lists(clock)
+        longest = max([len(values) for values in lists], default=1)
+        return [[values[(k * (at + 1)) % len(values)] for at, values in enumerate(lists)] for k in range(longest)]
+
+
+def calls():
+    return [Call(line) for line in STAGE_1.splitlines() if line]
+
+
+def kept_triples(clock):
+    return [(a, f, 0) for a in divisors(clock[0]) for f in divisors(turns(clock)) if spots(clock, a, f) == 1]
+
+
+def spots(clock, a, f):
+    """w of [6]."""
+    found = 1
+    for prime in divisors(clock[0]):
+        is_prime = divisors(prime) == [1, prime] and prime > 1
+        if is_prime and a % prime and any(root % prime != 1 for mover, root in clock[1] if f % mover == 0):
+            found *= prime
+    return found
+
+
+def all_triples(clock):
+    pairs = [(a, f) for a in divisors(clock[0]) for f in divisors(turns(clock))]
+    return [(a, f, spot) for a, f in pairs for spot in range(spots(clock, a, f))]
+
+
+def some_move_sets(clock):
+    rng = dice(3)
+    sets = [tuple(sorted({drawn_move(clock, rng) for _ in range(many)})) for many in (1, 2, 3, 9)]
+    return [((0, 0),), *sets, tuple(sorted(moves(clock)))]
+
+
+def pieces(clock):
+    pairs = [(a, b) for a in divisors(clock[0]) for b in divisors(turns(clock))]
+    return [(a, b) for a, b in pairs if all(edge(clock, a) % q for q in divisors(b)[1:])]
+
+
+def line_of(clock):
+    return " ".join(["clock", str(clock[0])] + [f"{mover} {root}" for mover, root in clock[1]])
+
+
+QUOTIENTS = [(0, 1), (1, 1), (-1, 1), (-3, 4), (10 ** 29 + 1, 7), (7, 10 ** 29), (6, 35)]
+BAD_QUOTIENTS = [None, 1, True, (), (1,), (2, 4), (1, 0), (1, -1), (0, 2), (True, 1), (1, True), [1, 2], (1, 2, 3),
+                 ("1", 1), ((1, 1), 1), DEEP_TUPLE]
+
+GOOD = {
+    "thing": lambda clock: [*JUNK, 0, 7, -1, (1, 2), clock, (0, 0), ((0, 0),), (1, 1), (1, 1, 0)],
+    "clock_thing": lambda clock: [clock],
+    "clock_text": lambda clock: [line_of(clock), "clock 6", "clock 1 2 1"],
+    "integer": lambda clock: [0, 1, -1, 2, 10 ** 29, -(10 ** 29)],
+    "number": lambda clock: [0, 1, 2, 3, 40],
+    "counted": lambda clock: [1, 2, 6, 12, 97, 9973, 10000],
+    "nonzero": lambda clock: [1, -1, -6, 4, 10 ** 29],
+    "quotient": lambda clock: QUOTIENTS,
+    "divider": lambda clock: QUOTIENTS[1:],
+    "quotients": lambda clock: [(), ((1, 2),), tuple(QUOTIENTS)],
+    "turn": lambda clock: list(range(turns(clock))),
+    "beat": lambda clock: list(range(clock[0])),
+    "place": lambda clock: list(range(size(clock))),
+    "a": lambda clock: divisors(clock[0]),
+    "mover": lambda clock: [mover for mover, _ in clock[1]],
+    "prime": lambda clock: [k for k in divisors(clock[0]) if len(divisors(k)) == 2],
+    "move": lambda clock: sorted(moves(clock)),
+    "moves": some_move_sets,
+    "part": all_triples,
+    "kept": kept_triples,
+}
+
+# bad values, for SIX
+BAD = {
+    "integer": lambda: NO_INTEGER,
+    "number": lambda: [*NO_INTEGER, -1, -(10 ** 59)],
+    "counted": lambda: [*NO_INTEGER, 0, -1, -6, 10001],
+    "nonzero": lambda: [*NO_INTEGER, 0],
+    "quotient": lambda: BAD_QUOTIENTS,
+    "divider": lambda: [*BAD_QUOTIENTS, (0, 1)],
+    "quotients": lambda: [None, 3, (1, 2), [], [(1, 2)], ((1, 2), (2, 4)), ((1, 2), 1), ((1, 2), (True, 1)), "()"],
+    "turn": lambda: [*NO_INTEGER, -1, 2, 10 ** 59],
+    "beat": lambda: [*NO_INTEGER, -1, 3, 10 ** 59],
+    "place": lambda: [*NO_INTEGER, -1, 6, 10 ** 59],
+    "a": lambda: [*NO_INTEGER, 0, -1, -3, 2, 6],
+    "mover": lambda: [*NO_INTEGER, 0, 1, 3, (2, 2), -2],
+    "prime": lambda: [*NO_INTEGER, 0, 1, 2, 6, -3],
+    "move": lambda: [*JUNK, 0, (0,), (0, 0, 0), (3, 0), (0, 2), (-1, 0), (0, -1), (True, 0), (0, False), [0, 0]],
+    "moves": lambda: [*JUNK, (), (0, 0), [(0, 0)], ((0, 0), (0, 0)), ((1, 0), (0, 0)), ((0, 0), (3, 0)),
+                      ((0, False),), ([0, 0],), ((0, 0), (0, 1), (0, 1))],
+    "part": lambda: [*JUNK, (1, 1), (1, 1, 0, 0), [1, 1, 0], (2, 1, 0), (1, 3, 0), (0, 1, 0), (1, 0, 0), (1, 1, 1),
+                     (1, 2, 3), (1, 2, -1), (3, 2, 1), (True, 1, 0), (1, True, 0), (1, 1, False), (-1, 1, 0)],
+    "kept": lambda: [*JUNK, (1, 2, 0), (1, 2, 1), (2, 1, 0), (3, 2, 1), [3, 1, 0], (3, True, 0), (3, 1)],
+    "clock_text": lambda: [None, True, 0, [], (), ["clock 6"], ("clock 6",), DEEP_LIST],
+}

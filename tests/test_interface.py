@@ -1,0 +1,53 @@
+"""Names, arguments and modules are as the document lists them."""
+
+import inspect
+import unittest
+from importlib import import_module
+
+from calls import calls
+
+# class: module, base, arguments, and what stands in the body of the class itself
+CLASSES = {
+    "Clock": ("clockclasses", "object", ["beats", "movers"], {
+        "form_now": None, "many_now": None, "turns_now": None, "edge_now": None,
+        "__getitem__": 1, "__call__": ["move", "beat"], "__floordiv__": 1, "all_then": ["moves"], "__contains__": 1,
+        "__len__": 0, "__iter__": 0, "__str__": 0, "__eq__": 1, "read": ["text"]}),
+    "Flat": ("clockclasses", "Clock", ["beats"], {"shift_of": ["many"]}),
+}
+
+
+def arguments(function):
+    return list(inspect.signature(function).parameters)
+
+
+class Interface(unittest.TestCase):
+    def test_functions(self):
+        for call in calls():
+            with self.subTest(call=call.name):
+                self.assertEqual(call.function.__module__, "evenlater." + call.module)
+                self.assertEqual(arguments(call.function), call.all_params())
+
+    def test_classes(self):
+        for name, (module, base, made_of, own) in CLASSES.items():
+            known = getattr(import_module("evenlater." + module), name)
+            self.assertEqual((known.__module__, known.__bases__[0].__name__), ("evenlater." + module, base))
+            self.assertEqual(arguments(known), made_of)
+            for method, told in own.items():
+                with self.subTest(name=name, method=method):
+                    self.judge(known, method, told)
+
+    def judge(self, known, method, told):
+        self.assertIn(method, vars(known))
+        found = vars(known)[method]
+        if told is None:
+            self.assertIsInstance(found, property)
+        elif isinstance(found, classmethod):
+            self.assertEqual(arguments(getattr(known, method)), told)
+        elif isinstance(told, list):
+            self.assertEqual(arguments(found)[1:], told)
+        else:
+            self.assertEqual(len(arguments(found)), told + 1)
+
+
+if __name__ == "__main__":
+    unittest.main()
