@@ -11,11 +11,12 @@ HEAD = "clock"
 def clock_line(clock):
     """The line of a clock."""
     beats, movers = clock
-    return " ".join([HEAD, str(beats), *[str(number) for pair in movers for number in pair]])
+    numbers = [str(number) for pair in movers for number in pair]
+    return " ".join([HEAD, str(beats), *numbers])
 
 
 def _clock_in(numbers):
-    return numbers[0], tuple([(numbers[k], numbers[k + 1]) for k in range(1, len(numbers) - 1, 2)])
+    return numbers[0], tuple([(numbers[k], numbers[k + 1]) for k in range(1, len(numbers), 2)])
 
 
 def _begins_clock(words):
@@ -37,6 +38,6 @@ def read_clock(text):
     for k in range(len(words)):
         if not _begins_clock(words[:k + 1]):
             raise InvalidText(0, k)
-    if len(words) < 2 or len(words) % 2 == 1:
+    if len(words) % 2 == 1:
         raise InvalidText(0, len(words))
     return _clock_in([int(word) for word in words[1:]])

@@ -12,39 +12,39 @@ def quotient_of(top, bottom):
     return lowest(top, bottom)
 
 
-def _need_both(one, other):
+def _need_quotients(one, other):
     need(is_quotient(one), "one")
     need(is_quotient(other), "other")
 
 
 def plus(one, other):
     """The sum."""
-    _need_both(one, other)
+    _need_quotients(one, other)
     return lowest(one[0] * other[1] + other[0] * one[1], one[1] * other[1])
 
 
 def minus(one, other):
     """One less other."""
-    _need_both(one, other)
+    _need_quotients(one, other)
     return lowest(one[0] * other[1] - other[0] * one[1], one[1] * other[1])
 
 
 def times(one, other):
     """The product."""
-    _need_both(one, other)
+    _need_quotients(one, other)
     return lowest(one[0] * other[0], one[1] * other[1])
 
 
 def over(one, other):
     """One divided by other, which is not zero."""
-    _need_both(one, other)
+    _need_quotients(one, other)
     need(other[0] != 0, "other")
     return lowest(one[0] * other[1], one[1] * other[0])
 
 
 def compare(one, other):
     """-1, 0 or 1, as one is less than, equal to or greater than other."""
-    _need_both(one, other)
+    _need_quotients(one, other)
     gap = one[0] * other[1] - other[0] * one[1]
     if gap == 0:
         return 0

@@ -2,7 +2,7 @@
 
 from importlib import import_module
 
-from samples import DEEP_LIST, DEEP_TUPLE, JUNK, divisors, drawn_move, dice, edge, moves, size, turns
+from samples import DEEP_LIST, DEEP_TUPLE, JUNK, dice, divisors, drawn_deal, drawn_move, edge, moves, size, turns
 
 NO_INTEGER = [None, True, False, "1", "", (), (1,), [1], DEEP_TUPLE, DEEP_LIST]
 
@@ -64,6 +64,48 @@ clocktexts clock_line clock
 clocktexts read_clock text:clock_text
 """
 
+STAGE_2 = """
+dealkinds is_deal clock thing:thing
+dealkinds is_plain clock thing:thing
+dealmaking settled clock bottom:nonzero weights:weights
+dealmaking idle_deal clock
+dealmaking deal_on clock moves:move_set
+dealmaking even_deal clock quotient:quotient
+dealmaking even_on clock part:part
+dealmaking single_deal clock move:move quotient:quotient
+weighing weight_at clock deal:deal move:move
+weighing total_of clock deal:deal
+weighing moves_of clock deal:deal
+weighing square_sum clock deal:deal
+dealsums added clock one:deal other:deal
+dealsums taken clock one:deal other:deal
+dealsums scaled clock deal:deal quotient:quotient
+dealing dealt clock one:deal other:deal
+dealing dealt_row clock deals:deals
+dealing dealt_again clock deal:deal many:number
+mirrors mirrored clock deal:deal
+mirrors turned_deal clock deal:deal by:move
+signs is_even clock deal:deal
+signs is_own_mirror clock deal:deal
+signs is_own_square clock deal:deal
+signs is_alike clock deal:deal
+signs can_exchange clock one:deal other:deal
+boards place_after clock piece:last_piece place:last_place move:move
+boards place_number clock piece:last_piece place:last_place
+boards board_table clock piece:piece deal:deal
+ranking rank_of rows:rows
+ranking combined rows:rows_of_two row:row_of_two
+dealfolds folded_deal clock part:kept deal:deal
+dealfolds lifted_deal clock part:all_beats deal:folded_deal
+dealtexts deal_line clock deal:deal
+dealtexts read_deal clock text:deal_text
+pieces pieces_of clock
+pieces edge_at clock piece:piece
+pieces grain_at clock piece:piece
+pieces width_at clock piece:piece
+pieces pieces_under clock piece:piece
+"""
+
 
 class Call:
     """One function of the interface, as the document tells it."""
@@ -92,7 +134,7 @@ class Call:
 
 
 def calls():
-    return [Call(line) for line in STAGE_1.splitlines() if line]
+    return [Call(line) for line in (STAGE_1 + STAGE_2).splitlines() if line]
 
 
 def kept_triples(clock):
@@ -129,6 +171,23 @@ def line_of(clock):
     return " ".join(["clock", str(clock[0])] + [f"{mover} {root}" for mover, root in clock[1]])
 
 
+def some_deals(clock):
+    rng = dice(8)
+    many = size(clock)
+    idle, even = (1, (1,) + (0,) * (many - 1)), (many, (1,) * many)
+    long = (10 ** 29 + 1, (10 ** 29,) * (many - 1) + (-(10 ** 29) + 3,))
+    return [(1, (0,) * many), idle, even, long, *[drawn_deal(clock, rng) for _ in range(5)]]
+
+
+def text_of(deal):
+    return " ".join(["deal", str(deal[0]), *map(str, deal[1])])
+
+
+def turning(clock):
+    """The clock folded by all its shifts."""
+    return 1, tuple((mover, 1) for mover, _ in clock[1])
+
+
 QUOTIENTS = [(0, 1), (1, 1), (-1, 1), (-3, 4), (10 ** 29 + 1, 7), (7, 10 ** 29), (6, 35)]
 BAD_QUOTIENTS = [None, 1, True, (), (1,), (2, 4), (1, 0), (1, -1), (0, 2), (True, 1), (1, True), [1, 2], (1, 2, 3),
                  ("1", 1), ((1, 1), 1), DEEP_TUPLE]
@@ -154,7 +213,25 @@ GOOD = {
     "moves": some_move_sets,
     "part": all_triples,
     "kept": kept_triples,
+    "all_beats": lambda clock: [(clock[0], 1, 0)],
+    "folded_deal": lambda clock: some_deals(turning(clock)),
+    "move_set": lambda clock: [(), *some_move_sets(clock)],
+    "weights": lambda clock: [weights for _, weights in some_deals(clock)],
+    "deal": some_deals,
+    "deals": lambda clock: [(), tuple(some_deals(clock)[4:5]), tuple(some_deals(clock)[4:7])],
+    "piece": pieces,
+    "last_piece": lambda clock: [(clock[0], 1)],
+    "last_place": lambda clock: [(beat, 0) for beat in range(clock[0])],
+    "rows": lambda clock: [(), ((),), ((), ()), ((1,), (0,)), ((2, 4, 0), (2, 1, 3), (2, 1, 3)), ((0,) * 60,) * 60],
+    "rows_of_two": lambda clock: [((1, 2), (3, 4)), ((1, 2), (2, 4)), ((0, 0),), ((1, 0), (0, 1), (1, 1))],
+    "row_of_two": lambda clock: [(0, 0), (1, 2), (1, 1), (-(10 ** 29), 10 ** 29)],
+    "deal_text": lambda clock: [text_of(deal) for deal in some_deals(clock)],
 }
+
+BAD_DEALS = [*JUNK, 1, (1,), (1, (1, 2, 0, 1, 2, 0), 0), [1, (1, 2, 0, 1, 2, 0)], (1, [1, 2, 0, 1, 2, 0]),
+             (1, (1, 2, 0, 1, 2)), (1, (1, 2, 0, 1, 2, 0, 0)), (2, (2, 4, 0, 2, 4, 0)), (2, (0,) * 6), (0, (1,) * 6),
+             (-1, (1,) * 6), (True, (1, 2, 0, 1, 2, 0)), (1, (True, 2, 0, 1, 2, 0)), (1, (1, 2, False, 1, 2, 0)),
+             (1, (1, 2, None, 1, 2, 0)), (1, ()), ("1", (1,) * 6)]
 
 # bad values, for SIX
 BAD = {
@@ -177,5 +254,21 @@ BAD = {
     "part": lambda: [*JUNK, (1, 1), (1, 1, 0, 0), [1, 1, 0], (2, 1, 0), (1, 3, 0), (0, 1, 0), (1, 0, 0), (1, 1, 1),
                      (1, 2, 3), (1, 2, -1), (3, 2, 1), (True, 1, 0), (1, True, 0), (1, 1, False), (-1, 1, 0)],
     "kept": lambda: [*JUNK, (1, 2, 0), (1, 2, 1), (2, 1, 0), (3, 2, 1), [3, 1, 0], (3, True, 0), (3, 1)],
+    "all_beats": lambda: [*JUNK, (1, 2, 0), (3, 2, 1), [3, 1, 0]],
+    "folded_deal": lambda: [*BAD_DEALS, (1, (1, 2, 0, 1, 2, 0)), (1, (1,)), (2, (4, 2)), (1, (True, 2))],
+    "move_set": lambda: [*JUNK, (0, 0), [(0, 0)], ((0, 0), (0, 0)), ((1, 0), (0, 0)), ((3, 0),), ((0, True),), [], ""],
+    "weights": lambda: [*JUNK, (), (1,) * 5, (1,) * 7, [1] * 6, (1, 1, 1, 1, 1, True), (1, 1, 1, 1, 1, None), "111111"],
+    "deal": lambda: BAD_DEALS,
+    "deals": lambda: [None, True, 0, [], [(1, (1, 2, 0, 1, 2, 0))], (1, (1, 2, 0, 1, 2, 0)), (None,), ((1, (1,)),),
+                      ((1, (1, 2, 0, 1, 2, 0)), (2, (2, 0, 0, 0, 0, 0))), DEEP_TUPLE],
+    "piece": lambda: [*JUNK, (3, 2), (2, 1), (6, 1), (1, 3), (0, 1), (1, 0), (-1, 1), (True, 1), (1, True), [1, 1],
+                      (1,), (1, 1, 1)],
+    "last_piece": lambda: [*JUNK, (3, 2), (2, 1), (1, 4), (3, True), [3, 1], (3, 1, 0)],
+    "last_place": lambda: [*JUNK, (3, 0), (0, 1), (-1, 0), (0, -1), (True, 0), (0, False), [0, 0], (0,), (0, 0, 0), 0],
+    "rows": lambda: [None, True, 0, [], [[1]], [(1,)], ([1],), ((1,), (1, 2)), ((), (1,)), ((1, True),), ((1, None),),
+                     (1, 2), ((1, "2"),), DEEP_TUPLE, ""],
+    "rows_of_two": lambda: [None, [(1, 2)], ((1, 2), (3,)), ((1, True), (2, 3)), ((1, 2), [3, 4]), (1, 2), "12"],
+    "row_of_two": lambda: [None, True, 1, (), (1,), (1, 2, 3), [1, 2], (1, True), (1, None), "12", ((1, 2),)],
+    "deal_text": lambda: [None, True, 0, [], (), ["deal 1 0 0 0 0 0 0"], (1, (0,) * 6), DEEP_LIST],
     "clock_text": lambda: [None, True, 0, [], (), ["clock 6"], ("clock 6",), DEEP_LIST],
 }

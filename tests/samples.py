@@ -1,8 +1,9 @@
 """Clocks, values and plain reckonings from the definitions, for the tests to compare with."""
 
 import random
+from fractions import Fraction
 from itertools import combinations
-from math import gcd, prod
+from math import gcd, lcm, prod
 
 SIX, FLAT, SEVEN, LOOSE = (3, ((2, 2),)), (6, ()), (7, ((3, 2),)), (3, ((2, 1),))
 SLIPS = (1, (1, 2, 0, 1, 2, 0))
@@ -120,3 +121,25 @@ def drawn_deal(clock, rng, most=9):
         weights = tuple(rng.randint(-most, most) for _ in range(size(clock)))
         if gcd(bottom, *weights) == 1:
             return bottom, weights
+
+
+def fractions(deal):
+    return [Fraction(weight, deal[0]) for weight in deal[1]]
+
+
+def deal_for(numbers):
+    """The deal with these weights."""
+    bottom = lcm(*[number.denominator for number in numbers])
+    return bottom, tuple(int(number * bottom) for number in numbers)
+
+
+def plain_dealt(clock, one, other):
+    """one * other, from the definition."""
+    every = moves(clock)
+    place = {move: k for k, move in enumerate(every)}
+    result = [Fraction(0)] * size(clock)
+    left, right = fractions(one), fractions(other)
+    for g in every:
+        for k in every:
+            result[place[then(clock, g, k)]] += left[place[g]] * right[place[k]]
+    return deal_for(result)

@@ -13,6 +13,12 @@ CLASSES = {
         "__getitem__": 1, "__call__": ["move", "beat"], "__floordiv__": 1, "all_then": ["moves"], "__contains__": 1,
         "__len__": 0, "__iter__": 0, "__str__": 0, "__eq__": 1, "read": ["text"]}),
     "Flat": ("clockclasses", "Clock", ["beats"], {"shift_of": ["many"]}),
+    "Deal": ("dealclasses", "object", ["clock", "deal"], {
+        "its_clock": None, "its_deal": None, "its_total": None, "its_moves": None, "__add__": 1, "__sub__": 1,
+        "__mul__": 1, "__neg__": 0, "__invert__": 0, "scaled": ["quotient"], "again": ["many"], "turned": ["by"],
+        "folded": ["part"], "__call__": ["move"], "__contains__": 1, "__iter__": 0, "__str__": 0, "__eq__": 1,
+        "read": ["clock", "text"], "even": ["clock", "quotient"]}),
+    "Plain": ("dealclasses", "Deal", ["clock", "deal"], {"chance": ["move"], "from_slips": ["clock", "slips"]}),
 }
 
 
