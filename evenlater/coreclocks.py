@@ -56,13 +56,17 @@ def back_in(clock, move):
 
 
 def turned_in(clock, move, by):
-    """The move turned by another one."""
-    return joined(clock, joined(clock, back_in(clock, by), move), by)
+    """The move turned by another one: what the back of by, then move, then by come to."""
+    away = (1 - factor_in(clock, move[1])) * by[0]
+    return (factor_in(clock, by[1]) * move[0] + away) % clock[0], move[1]
 
 
 def class_in(clock, move):
-    """All moves of the class of move, ascending."""
-    return tuple(sorted({turned_in(clock, move, by) for by in every_move(clock)}))
+    """All moves of the class of move, ascending; each one is move turned by a move, as turned_in has it."""
+    factors, (shift, turn) = factors_in(clock), move
+    aways = [(1 - factors[turn]) * beat for beat in range(clock[0])]
+    shifts = sorted({(factor * shift + away) % clock[0] for factor in factors for away in aways})
+    return tuple([(known, turn) for known in shifts])
 
 
 def every_class(clock):

@@ -23,6 +23,11 @@ def is_plain(clock, thing):
     return is_deal(clock, thing) and min(thing[1]) >= 0 and max(thing[1]) > 0
 
 
+def is_zero(deal):
+    """Whether a deal has no weight but 0."""
+    return all([weight == 0 for weight in deal[1]])
+
+
 def is_deal_row(clock, thing):
     """Whether thing is a tuple of deals of the clock, perhaps ()."""
     return isinstance(thing, tuple) and all([is_deal(clock, value) for value in thing])

@@ -19,6 +19,11 @@ def _shared(clock, moves, quotient):
     return lowest_row(quotient[1], [quotient[0] if move in moves else 0 for move in every_move(clock)])
 
 
+def zero_deal(clock):
+    """The deal with no weight but 0."""
+    return _shared(clock, (), (0, 1))
+
+
 def idle_deal(clock):
     """The deal with 1 at the idle move, 0 elsewhere."""
     return _shared(clock, ((0, 0),), (1, 1))

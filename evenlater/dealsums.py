@@ -2,6 +2,7 @@
 
 from evenlater.corenumbers import lowest_row
 from evenlater.dealkinds import is_deal, need_deals
+from evenlater.dealmaking import zero_deal
 from evenlater.kinds import is_quotient
 from evenlater.refusals import need
 
@@ -18,6 +19,14 @@ def taken(clock, one, other):
     need_deals(clock, one, other)
     weights = [left * other[0] - right * one[0] for left, right in zip(one[1], other[1])]
     return lowest_row(one[0] * other[0], weights)
+
+
+def added_row(clock, deals):
+    """The sum of a row of deals, the zero deal for none."""
+    result = zero_deal(clock)
+    for deal in deals:
+        result = added(clock, result, deal)
+    return result
 
 
 def scaled(clock, deal, quotient):

@@ -38,6 +38,11 @@ def is_pair(thing):
     return isinstance(thing, tuple) and len(thing) == 2
 
 
+def is_triple(thing):
+    """Whether thing is a tuple of three values."""
+    return isinstance(thing, tuple) and len(thing) == 3
+
+
 def are_integers(thing):
     """Whether thing is a tuple of integers."""
     return isinstance(thing, tuple) and all([is_integer(value) for value in thing])
@@ -78,6 +83,11 @@ def clock_fault(thing):
     return ("size", -1) if size_in(thing) > MOST_MOVES else None
 
 
+def are_quotients(thing):
+    """Whether thing is a tuple of quotients, perhaps ()."""
+    return isinstance(thing, tuple) and all([is_quotient(value) for value in thing])
+
+
 def is_clock(thing):
     """Whether thing is a clock."""
     return clock_fault(thing) is None
@@ -93,9 +103,13 @@ def is_move_row(clock, thing):
     return isinstance(thing, tuple) and all([is_move(clock, value) for value in thing])
 
 
+def _ascends(rows):
+    return all([rows[k - 1] < rows[k] for k in range(1, len(rows))])
+
+
 def is_move_set(clock, thing):
     """Whether thing is a set of moves of the clock, perhaps ()."""
-    return is_move_row(clock, thing) and all([thing[k - 1] < thing[k] for k in range(1, len(thing))])
+    return is_move_row(clock, thing) and _ascends(thing)
 
 
 def is_moves(clock, thing):
@@ -110,9 +124,14 @@ def is_piece(clock, thing):
     return gcd(edge_in(clock, thing[0]), thing[1]) == 1
 
 
+def is_piece_set(clock, thing):
+    """Whether thing is a set of pieces of the clock, perhaps ()."""
+    return isinstance(thing, tuple) and all([is_piece(clock, value) for value in thing]) and _ascends(thing)
+
+
 def is_part(clock, thing):
     """Whether thing is the triple of a part of the clock."""
-    if not (isinstance(thing, tuple) and len(thing) == 3):
+    if not is_triple(thing):
         return False
     a, f, spot = thing
     if not (is_divisor(a, clock[0]) and is_divisor(f, turns_in(clock))):

@@ -1,7 +1,7 @@
 """Quotients, exact and in lowest terms."""
 
 from evenlater.corenumbers import lowest
-from evenlater.kinds import is_integer, is_quotient
+from evenlater.kinds import are_quotients, is_integer, is_quotient
 from evenlater.refusals import need
 
 
@@ -53,7 +53,7 @@ def compare(one, other):
 
 def sum_up(quotients):
     """The sum of a tuple of quotients, zero for ()."""
-    need(isinstance(quotients, tuple) and all([is_quotient(value) for value in quotients]), "quotients")
+    need(are_quotients(quotients), "quotients")
     total = (0, 1)
     for value in quotients:
         total = plus(total, value)

@@ -1,8 +1,11 @@
 """Every function of the interface with its parameters, and good and bad values for each kind of parameter."""
 
+from fractions import Fraction
+from functools import lru_cache
 from importlib import import_module
 
-from samples import DEEP_LIST, DEEP_TUPLE, JUNK, dice, divisors, drawn_deal, drawn_move, edge, moves, size, turns
+from samples import DEEP_LIST, DEEP_TUPLE, JUNK, deal_for, dice, divisors, drawn_deal, drawn_move, edge
+from samples import moves, size, turned, turns
 
 NO_INTEGER = [None, True, False, "1", "", (), (1,), [1], DEEP_TUPLE, DEEP_LIST]
 
@@ -106,6 +109,43 @@ pieces width_at clock piece:piece
 pieces pieces_under clock piece:piece
 """
 
+STAGE_3 = """
+ones root_sum number:free_number integer:integer
+ones one_of clock piece:piece
+ones ones_of clock pieces:piece_set
+ones at_piece clock piece:piece deal:deal
+ones ones_in clock deal:ones_sum
+ranks board_rank clock piece:piece deal:ranked
+ranks rank_at clock piece:piece deal:ranked
+ranks ranks_of clock deal:ranked
+ranks free_many clock deal:ranked
+ranks is_ranks clock thing:thing
+ranks lets_ranks clock deal:zero thing:zero_ranks
+partranks part_ranks clock part:part
+partranks quiet_pieces clock part:part
+partranks parts_cover clock one:part other:part
+frames frame_of clock piece:piece
+frames lets_frame clock piece:first_piece thing:first_frame
+rankmaking deal_of_ranks clock ranks:ranks
+smoothing class_totals clock deal:deal
+smoothing smoothed clock deal:deal
+exchanging class_deals clock
+exchanging exchange_many clock
+exchanging class_weights clock deal:alike
+exchanging deal_of_classes clock quotients:class_quotients
+evens even_after clock deal:deal
+evens is_even_by clock deal:deal many:number
+evenpapers even_paper clock deal:deal
+evenpapers lets_even clock deal:zero thing:even_paper
+classwise even_in_classes clock deal:deal many:number
+classwise first_uneven clock deal:deal
+turnabout both_ways clock one:deal other:deal
+turnabout row_after clock deals:deals
+laters later_deal clock many:later
+evensets folds_evenly clock deal:deal
+evensets divides_total clock deal:whole
+"""
+
 
 class Call:
     """One function of the interface, as the document tells it."""
@@ -134,7 +174,7 @@ class Call:
 
 
 def calls():
-    return [Call(line) for line in (STAGE_1 + STAGE_2).splitlines() if line]
+    return [Call(line) for line in (STAGE_1 + STAGE_2 + STAGE_3).splitlines() if line]
 
 
 def kept_triples(clock):
@@ -177,6 +217,39 @@ def some_deals(clock):
     idle, even = (1, (1,) + (0,) * (many - 1)), (many, (1,) * many)
     long = (10 ** 29 + 1, (10 ** 29,) * (many - 1) + (-(10 ** 29) + 3,))
     return [(1, (0,) * many), idle, even, long, *[drawn_deal(clock, rng) for _ in range(5)]]
+
+
+def most_places(clock):
+    """How many places the largest board has."""
+    return max(a * b for a, b in pieces(clock))
+
+
+def even_of(clock, total=1):
+    many = size(clock)
+    return deal_for([Fraction(total, many)] * many)
+
+
+def idle_of(clock):
+    return deal_for([Fraction(1)] + [Fraction(0)] * (size(clock) - 1))
+
+
+def alike_deals(clock):
+    some = [move for move in moves(clock) if move[1] == 0]
+    shares = [Fraction(5, 3) if move in some else Fraction(-2) for move in moves(clock)]
+    return [zero_of(clock), idle_of(clock), even_of(clock), deal_for(shares)]
+
+
+def zero_of(clock):
+    return 1, (0,) * size(clock)
+
+
+def whole_deals(clock):
+    return [(1, weights) for _, weights in some_deals(clock)]
+
+
+@lru_cache
+def class_many(clock):
+    return len({frozenset(turned(clock, move, by) for by in moves(clock)) for move in moves(clock)})
 
 
 def text_of(deal):
@@ -226,6 +299,20 @@ GOOD = {
     "rows_of_two": lambda clock: [((1, 2), (3, 4)), ((1, 2), (2, 4)), ((0, 0),), ((1, 0), (0, 1), (1, 1))],
     "row_of_two": lambda clock: [(0, 0), (1, 2), (1, 1), (-(10 ** 29), 10 ** 29)],
     "deal_text": lambda clock: [text_of(deal) for deal in some_deals(clock)],
+    "free_number": lambda clock: [1, 2, 30, 9973, 9966, 3333],
+    "piece_set": lambda clock: [(), ((1, 1),), tuple(pieces(clock)), tuple(pieces(clock)[1:])],
+    "ones_sum": lambda clock: [zero_of(clock), idle_of(clock), even_of(clock)],
+    "ranked": lambda clock: some_deals(clock) if most_places(clock) <= 30 else [],
+    "zero": lambda clock: [zero_of(clock)],
+    "zero_ranks": lambda clock: [(0,) * len(pieces(clock))],
+    "first_piece": lambda clock: [(1, 1)],
+    "first_frame": lambda clock: [((even_of(clock),),)],
+    "ranks": lambda clock: [tuple(edge(clock, a) // k for a, _ in pieces(clock)) for k in (1, 2, 3, 7)],
+    "alike": alike_deals,
+    "class_quotients": lambda clock: [tuple((QUOTIENTS * 10)[k:k + class_many(clock)]) for k in range(7)],
+    "even_paper": lambda clock: [("even", 1, ())],
+    "later": lambda clock: list(range(1, edge(clock, clock[0]) + 1)),
+    "whole": whole_deals,
 }
 
 BAD_DEALS = [*JUNK, 1, (1,), (1, (1, 2, 0, 1, 2, 0), 0), [1, (1, 2, 0, 1, 2, 0)], (1, [1, 2, 0, 1, 2, 0]),
@@ -271,4 +358,19 @@ BAD = {
     "row_of_two": lambda: [None, True, 1, (), (1,), (1, 2, 3), [1, 2], (1, True), (1, None), "12", ((1, 2),)],
     "deal_text": lambda: [None, True, 0, [], (), ["deal 1 0 0 0 0 0 0"], (1, (0,) * 6), DEEP_LIST],
     "clock_text": lambda: [None, True, 0, [], (), ["clock 6"], ("clock 6",), DEEP_LIST],
+    "free_number": lambda: [*NO_INTEGER, 0, -1, 4, 12, -30, 10000, 10001, 10 ** 59],
+    "piece_set": lambda: [*JUNK, (1, 1), [(1, 1)], ((1, 1), (1, 1)), ((3, 1), (1, 1)), ((1, 1), (3, 2)),
+                          ((1, True),), ([1, 1],), "", []],
+    "ones_sum": lambda: [*BAD_DEALS, (1, (1, 2, 0, 1, 2, 0)), (1, (2, 0, 0, 0, 0, 0)), (1, (-1, 0, 0, 0, 0, 0)),
+                         (6, (2, 2, 2, 0, 0, 0)), (3, (2, 0, 0, -1, -1, 0)), (1, (1,) * 6)],
+    "ranked": lambda: BAD_DEALS,
+    "zero": lambda: BAD_DEALS,
+    "first_piece": lambda: BAD["piece"](),
+    "ranks": lambda: [*JUNK, (), (1, 1), (1, 1, 2, 0), [1, 1, 2], (2, 0, 0), (0, 2, 0), (0, 0, 3), (0, 0, -1),
+                      (True, 0, 0), (1, None, 0), (1, (1,), 2), (1, 1, "2")],
+    "alike": lambda: [*BAD_DEALS, (1, (1, 2, 0, 1, 2, 0)), (1, (1, 0, 0, 1, 0, 0)), (1, (1, 1, 2, 0, 0, 0))],
+    "class_quotients": lambda: [*JUNK, (), ((1, 1),) * 2, ((1, 1),) * 4, [(1, 1)] * 3, ((1, 1), (1, 2), (2, 4)),
+                                ((1, 1), (1, 2), 0), ((1, True), (1, 2), (1, 3)), ((1, 1), (1, 2), (1, -3))],
+    "later": lambda: [*NO_INTEGER, 0, -1, 3, 10 ** 59],
+    "whole": lambda: [*BAD_DEALS, (2, (1, 2, 0, 1, 2, 0)), (3, (0, 0, 0, 0, 0, 1))],
 }

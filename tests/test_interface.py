@@ -19,6 +19,9 @@ CLASSES = {
         "folded": ["part"], "__call__": ["move"], "__contains__": 1, "__iter__": 0, "__str__": 0, "__eq__": 1,
         "read": ["clock", "text"], "even": ["clock", "quotient"]}),
     "Plain": ("dealclasses", "Deal", ["clock", "deal"], {"chance": ["move"], "from_slips": ["clock", "slips"]}),
+    "Ranked": ("rankclasses", "object", ["clock", "deal"], {
+        "__call__": ["piece"], "__contains__": 1, "__iter__": 0, "__and__": 1, "__eq__": 1}),
+    "Central": ("rankclasses", "Ranked", ["clock", "deal"], {"share_at": ["move"]}),
 }
 
 
