@@ -32,11 +32,12 @@ def _duals(clock, piece, factors):
     """The deals Y(j) such that, added over all factors, what the factors make of the shift by i times Y(j) is the one
     if i is j and 0 if not: the coefficients of the product of (z - shift by factor), over all factors but 1, by the
     worth of this product at z = shift by 1."""
-    rows = [one_of(clock, piece)]
+    rows, zero = [one_of(clock, piece)], zero_deal(clock)
     for factor in factors[1:]:
         step, back = _shift(clock, factor), _gap_back(clock, piece[0], factor)
-        ahead, behind = [zero_deal(clock), *rows], [*[dealt(clock, step, row) for row in rows], zero_deal(clock)]
-        rows = [dealt(clock, taken(clock, left, right), back) for left, right in zip(ahead, behind)]
+        stepped = [dealt(clock, step, row) for row in rows]
+        pairs = list(zip([zero, *rows], [*stepped, zero]))
+        rows = [dealt(clock, taken(clock, left, right), back) for left, right in pairs]
     return rows
 
 

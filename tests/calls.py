@@ -146,6 +146,45 @@ evensets folds_evenly clock deal:deal
 evensets divides_total clock deal:whole
 """
 
+STAGE_4 = """
+falls falls_at clock piece:piece deal:ranked
+falls falls_of clock deal:ranked
+falls uneven_pieces clock deal:ranked
+falls is_falls edge:edge thing:thing
+falls all_falls edge:small_edge
+falls blocks_of edge:edge_two falls:falls_of_two
+falls after_of_falls clock rows:fall_rows
+fallmaking deal_of_falls clock piece:first_piece falls:first_falls
+fallmaking deal_of_rows clock rows:fall_rows
+lasting lasting_of clock deal:solved
+lasting fading_of clock deal:solved
+lasting fades_after clock deal:solved
+lasting lets_parted clock deal:zero thing:zero_pair
+recalls recall_of clock deal:solved
+recalls lets_recall clock deal:zero thing:zero_recall
+sides left_side clock deal:solved
+sides right_side clock deal:solved
+backs has_back clock deal:solved
+backs back_deal clock deal:backed
+making is_made_left clock one:solved other:solved
+making is_made_right clock one:solved other:solved
+making made_left clock one:backed other:solved
+making made_right clock one:backed other:solved
+makepapers made_paper clock side:side one:solved other:solved
+makepapers lets_made clock side:side one:zero other:zero thing:made_zero
+nearest nearest_left clock one:solved other:solved
+nearest nearest_right clock one:solved other:solved
+nearest gap_left clock one:solved other:solved
+nearest gap_right clock one:solved other:solved
+joins joint_left clock one:solved other:solved
+joins common_left clock one:solved other:solved
+joins joint_right clock one:solved other:solved
+joins common_right clock one:solved other:solved
+between made_between clock one:backed other:solved
+betweenpapers between_paper clock one:solved other:solved
+betweenpapers lets_between clock one:zero other:zero thing:between_zero
+"""
+
 
 class Call:
     """One function of the interface, as the document tells it."""
@@ -174,7 +213,7 @@ class Call:
 
 
 def calls():
-    return [Call(line) for line in (STAGE_1 + STAGE_2 + STAGE_3).splitlines() if line]
+    return [Call(line) for line in (STAGE_1 + STAGE_2 + STAGE_3 + STAGE_4).splitlines() if line]
 
 
 def kept_triples(clock):
@@ -252,6 +291,31 @@ def class_many(clock):
     return len({frozenset(turned(clock, move, by) for by in moves(clock)) for move in moves(clock)})
 
 
+def solved_deals(clock):
+    """Deals with few figures, for clocks with few moves; some of them are 0, even, idle, or lack ranks."""
+    if size(clock) > 21:
+        return []
+    rng = dice(9)
+    row = tuple(rng.randint(0, 1) for _ in range(size(clock)))
+    return [drawn_deal(clock, rng, 3), zero_of(clock), idle_of(clock), even_of(clock, 2), (1, row),
+            (1, row[::-1]), drawn_deal(clock, rng, 1)]
+
+
+def backed_deals(clock):
+    """Deals with a back."""
+    if size(clock) > 21:
+        return []
+    large = [Fraction(1, 9)] * (size(clock) - 1) + [Fraction(size(clock))]
+    return [idle_of(clock), deal_for(large), deal_for(large[::-1])]
+
+
+def fall_rows(clock):
+    """Falls for all pieces."""
+    edges = [edge(clock, a) for a, _ in pieces(clock)]
+    return [tuple((e,) + (0,) * e for e in edges), tuple((e,) * (e + 1) for e in edges),
+            tuple(tuple(range(e, -1, -1)) for e in edges), tuple((e,) + (e - 1,) * e for e in edges)]
+
+
 def text_of(deal):
     return " ".join(["deal", str(deal[0]), *map(str, deal[1])])
 
@@ -313,6 +377,19 @@ GOOD = {
     "even_paper": lambda clock: [("even", 1, ())],
     "later": lambda clock: list(range(1, edge(clock, clock[0]) + 1)),
     "whole": whole_deals,
+    "edge": lambda clock: [1, 2, 6, 59, 60],
+    "small_edge": lambda clock: [1, 2, 3, 8],
+    "edge_two": lambda clock: [2],
+    "falls_of_two": lambda clock: [(2, 1, 0), (2, 0, 0), (2, 1, 1), (2, 2, 2)],
+    "fall_rows": fall_rows,
+    "first_falls": lambda clock: [(1, 0), (1, 1)],
+    "solved": solved_deals,
+    "backed": backed_deals,
+    "zero_recall": lambda clock: [zero_of(clock)],
+    "zero_pair": lambda clock: [(zero_of(clock), zero_of(clock))],
+    "side": lambda clock: ["left", "right"],
+    "made_zero": lambda clock: [("made", deal) for deal in solved_deals(clock)],
+    "between_zero": lambda clock: [("between", deal, deal) for deal in solved_deals(clock)],
 }
 
 BAD_DEALS = [*JUNK, 1, (1,), (1, (1, 2, 0, 1, 2, 0), 0), [1, (1, 2, 0, 1, 2, 0)], (1, [1, 2, 0, 1, 2, 0]),
@@ -373,4 +450,17 @@ BAD = {
                                 ((1, 1), (1, 2), 0), ((1, True), (1, 2), (1, 3)), ((1, 1), (1, 2), (1, -3))],
     "later": lambda: [*NO_INTEGER, 0, -1, 3, 10 ** 59],
     "whole": lambda: [*BAD_DEALS, (2, (1, 2, 0, 1, 2, 0)), (3, (0, 0, 0, 0, 0, 1))],
+    "edge": lambda: [*NO_INTEGER, 0, -1, 61, 10 ** 59],
+    "small_edge": lambda: [*NO_INTEGER, 0, -1, 9, 60],
+    "edge_two": lambda: [*NO_INTEGER, 0, -1, 61],
+    "falls_of_two": lambda: [*JUNK, (), (2,), (2, 1), (2, 2, 1), (1, 1, 1), (3, 2, 1), (2, 1, 0, 0), [2, 1, 0], (2, 1, 2),
+                             (2, 0, -1), (2, True, 0), (2, 1, False), (2, 1, None), (2, 0, 1), "210"],
+    "fall_rows": lambda: [*JUNK, (), ((1, 0), (1, 0)), ((1, 0), (1, 0), (2, 2, 1)), ((1, 0), (1, 0), (1, 0)),
+                          [(1, 0), (1, 0), (2, 1, 0)], ((1, 0), (1, 0), [2, 1, 0]), ((1, 0), (1, 0), (2, 1, 0), (1, 0)),
+                          ((1, 0), (True, 0), (2, 1, 0)), ((2, 1, 0), (1, 0), (1, 0)), ((1, 0), (0, 0), (2, 1, 0))],
+    "first_falls": lambda: [*JUNK, (), (1,), (0, 0), (2, 1), (1, 0, 0), [1, 0], (1, 2), (1, -1), (True, 0), (1, False),
+                            (1, None), "10"],
+    "solved": lambda: BAD_DEALS,
+    "backed": lambda: BAD_DEALS,
+    "side": lambda: [*JUNK, "", "Left", "up", "left ", ("left",), ["right"], 0, "leftright"],
 }

@@ -143,3 +143,21 @@ def plain_dealt(clock, one, other):
         for k in every:
             result[place[then(clock, g, k)]] += left[place[g]] * right[place[k]]
     return deal_for(result)
+
+
+def quick_rank(rows):
+    """The rank of rows of integers, modulo a prime so large that it divides none of their determinants by chance."""
+    prime, rank = 2 ** 521 - 1, 0
+    rows = [[entry % prime for entry in row] for row in rows]
+    for column in range(len(rows[0]) if rows else 0):
+        lead = next((row for row in rows[rank:] if row[column]), None)
+        if lead is not None:
+            rows.remove(lead)
+            rows.insert(rank, lead)
+            rank += 1
+            share = pow(lead[column], -1, prime)
+            for k in range(rank, len(rows)):
+                if rows[k][column]:
+                    times = rows[k][column] * share % prime
+                    rows[k] = [(a - times * b) % prime for a, b in zip(rows[k], lead)]
+    return rank

@@ -21,6 +21,11 @@ CLASSES = {
     "Plain": ("dealclasses", "Deal", ["clock", "deal"], {"chance": ["move"], "from_slips": ["clock", "slips"]}),
     "Ranked": ("rankclasses", "object", ["clock", "deal"], {
         "__call__": ["piece"], "__contains__": 1, "__iter__": 0, "__and__": 1, "__eq__": 1}),
+    "Later": ("evenclasses", "object", ["clock", "deal"], {
+        "its_clock": None, "its_deal": None, "its_after": None, "fall": ["piece"], "falls": [], "paper": [],
+        "parted": [], "again": ["many"], "dealt": ["other"], "__contains__": 1, "__len__": 0, "__str__": 0, "__eq__": 1,
+        "from_many": ["clock", "many"], "read": ["clock", "text"]}),
+    "Stepped": ("evenclasses", "Later", ["clock", "piece", "falls"], {"its_piece": None, "its_falls": None}),
     "Central": ("rankclasses", "Ranked", ["clock", "deal"], {"share_at": ["move"]}),
 }
 

@@ -18,7 +18,8 @@ from evenlater.rankmaking import deal_of_ranks
 from evenlater.ranks import board_rank, free_many, is_ranks, lets_ranks, rank_at, ranks_of
 from samples import CLOCKS, FLIP, JUNK, LOOSE, POINT, SEVEN, SIX, SLIPS, SMALL_CLOCKS, all_clocks, dice, drawn_deal, edge
 from samples import moves, size, then
-from test_boards import plain_rank, units
+from samples import quick_rank
+from test_boards import units
 
 BOARD_CLOCKS = [clock for clock in CLOCKS if most_places(clock) <= 30]
 
@@ -28,7 +29,7 @@ def plain_ranks(clock, deal):
     found = {}
     for a, b in sorted(pieces(clock)):
         under = [piece for piece in found if a % piece[0] == 0 and b % piece[1] == 0]
-        left = plain_rank(board_table(clock, (a, b), deal)[1])
+        left = quick_rank(board_table(clock, (a, b), deal)[1])
         left -= sum(found[piece] * grain_at(clock, piece) for piece in under)
         grain = units(a) * units(b) // edge(clock, a)
         assert left % grain == 0
@@ -58,7 +59,7 @@ class Ranks(unittest.TestCase):
             for piece, rank in zip(pieces_of(clock), ranks):
                 self.assertEqual(rank_at(clock, piece, deal), rank)
                 self.assertLessEqual(rank, edge(clock, piece[0]))
-                self.assertEqual(board_rank(clock, piece, deal), plain_rank(board_table(clock, piece, deal)[1]))
+                self.assertEqual(board_rank(clock, piece, deal), quick_rank(board_table(clock, piece, deal)[1]))
                 whole = board_rank(clock, piece, at_piece(clock, piece, deal))
                 self.assertEqual(whole, rank * grain_at(clock, piece))
 
@@ -89,7 +90,7 @@ class Ranks(unittest.TestCase):
     def test_as_many_products_are_independent(self):
         for clock, deal in self.each(43):
             rows = tuple(dealt(clock, single_deal(clock, move, (1, 1)), deal)[1] for move in moves(clock))
-            self.assertEqual(free_many(clock, deal), plain_rank(rows))
+            self.assertEqual(free_many(clock, deal), quick_rank(rows))
 
     def test_idle_zero_mirrors_sums_and_products(self):
         rng = dice(44)
