@@ -15,7 +15,7 @@ APART = "apart"
 
 def is_side(thing):
     """Whether thing is the string left or the string right."""
-    return isinstance(thing, str) and thing in (LEFT, RIGHT)
+    return thing in (LEFT, RIGHT)
 
 
 def made_paper(clock, side, one, other):
@@ -38,7 +38,7 @@ def lets_made(clock, side, one, other, thing):
     """Whether thing shows if other is made of one from the side: the word ahead, or InvalidPaper."""
     need(is_side(side), "side")
     need_deals(clock, one, other)
-    if not (is_pair(thing) and isinstance(thing[0], str) and thing[0] in (MADE, APART) and is_deal(clock, thing[1])):
+    if not (is_pair(thing) and thing[0] in (MADE, APART) and is_deal(clock, thing[1])):
         raise InvalidPaper("shape", -1)
     word, deal = thing
     if word == MADE:

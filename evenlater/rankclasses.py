@@ -7,7 +7,6 @@ from evenlater.kinds import is_move, is_piece
 from evenlater.pieces import pieces_of, width_at
 from evenlater.ranks import ranks_of
 from evenlater.refusals import need
-from evenlater.signs import is_alike
 
 
 class Ranked:
@@ -44,9 +43,9 @@ class Central(Ranked):
     """A deal with equal weights within each class."""
 
     def __init__(self, clock, deal):
-        need(is_deal(clock, deal) and is_alike(clock, deal), "deal")
+        shares = class_weights(clock, deal)
         super().__init__(clock, deal)
-        self.shares = class_weights(clock, deal)
+        self.shares = shares
 
     def share_at(self, move):
         """The weight at the move."""

@@ -4,11 +4,13 @@ import unittest
 from itertools import product
 
 from calls import BAD, even_of, idle_of, pieces, some_deals, zero_of
-from evenlater.dealing import dealt, dealt_again
+from evenlater.backs import back_deal, has_back
+from evenlater.dealing import dealt, dealt_again, dealt_row
 from evenlater.dealmaking import even_on
 from evenlater.dealsums import added, scaled
 from evenlater.errors import NotUsable
 from evenlater.evens import even_after
+from evenlater.exchanging import deal_of_classes, exchange_many
 from evenlater.fallmaking import deal_of_falls, deal_of_rows
 from evenlater.falls import after_of_falls, all_falls, blocks_of, falls_at, falls_of, is_falls, uneven_pieces
 from evenlater.mirrors import mirrored, turned_deal
@@ -33,6 +35,13 @@ def mixed_deals(clock, rng):
     for _ in range(4):
         rows = tuple(rng.choice(all_falls(edge(clock, a))) for a, _ in pieces(clock))
         found.append(turned_deal(clock, deal_of_rows(clock, rows), drawn_move(clock, rng)))
+    both = deal_of_rows(clock, tuple(tuple(max(1, edge(clock, a) - k) for k in range(edge(clock, a) + 1))
+                                     for a, _ in pieces(clock)))
+    # what lasts is no multiple of an own square, and does not keep to the places of a frame
+    weights = [(k % 3, 1) for k in range(exchange_many(clock))]
+    central = deal_of_classes(clock, ((3 * size(clock), 1), *weights[1:]))
+    for stir in [deal for deal in some_deals(clock)[4:] if size(clock) <= 21 and has_back(clock, deal)][:2]:
+        found.append(dealt_row(clock, (stir, both, central, back_deal(clock, stir))))
     return [*found, *fading_deals(clock, rng)[:5], *thin_deals(clock, rng), zero_of(clock), idle_of(clock)]
 
 

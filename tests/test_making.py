@@ -26,7 +26,7 @@ def pairs(seed, clocks=SOLVED):
     rng = dice(seed)
     for clock in clocks:
         some = thin_deals(clock, rng)
-        for one in [some[0], *some[3:6], zero_of(clock), even_of(clock)]:
+        for one in [some[0], some[3], some[7], some[8], zero_of(clock), even_of(clock)]:
             other, more = rng.choice(some), drawn_deal(clock, rng, 3)
             for second in (other, dealt(clock, more, one), dealt(clock, one, more), zero_of(clock)):
                 yield clock, one, second

@@ -28,7 +28,7 @@ LARGE = [(7, ((2, 6), (3, 2))), (21, ((2, 20),)), (42, ()), (7, ((2, 1), (3, 4))
 def each(seed, clocks=SOLVED):
     rng = dice(seed)
     for clock in clocks:
-        for deal in [*mixed_deals(clock, rng)[:6], *thin_deals(clock, rng), zero_of(clock), idle_of(clock)]:
+        for deal in [*mixed_deals(clock, rng)[:8], *thin_deals(clock, rng), zero_of(clock), idle_of(clock)]:
             yield clock, deal
 
 
