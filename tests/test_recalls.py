@@ -4,10 +4,12 @@ import unittest
 
 from calls import BAD_DEALS, even_of, idle_of, pieces, zero_of
 from evenlater.backs import back_deal, has_back
+from evenlater.between import made_between
 from evenlater.dealing import dealt, dealt_row
 from evenlater.dealmaking import single_deal
 from evenlater.dealsums import added, scaled, taken
 from evenlater.errors import InvalidPaper, NotUsable, Unrecalled
+from evenlater.lasting import lasting_of
 from evenlater.making import is_made_left
 from evenlater.mirrors import mirrored
 from evenlater.ones import one_of
@@ -71,6 +73,13 @@ class Recalls(unittest.TestCase):
             self.assertIs(lets_recall(clock, deal, recall_of(clock, deal)), True)
             thin = (1, tuple(int(k % 3 == 0) - int(k % 7 == 1) for k in range(42)))
             self.assertIs(lets_recall(clock, thin, recall_of(clock, thin)), True)
+        for clock, figures in [(SIX, 20), (LOOSE, 20), ((15, ((2, 14),)), 4), ((5, ((2, 4), (3, 1))), 4), ((10, ()), 12)]:
+            deal = drawn_deal(clock, rng, 10 ** figures - 1)
+            self.assertIs(lets_recall(clock, deal, recall_of(clock, deal)), True)
+            self.assertEqual(dealt(clock, deal, back_deal(clock, deal)), idle_of(clock))
+            self.assertEqual(lasting_of(clock, deal), deal)
+            ahead, behind = made_between(clock, deal, even_of(clock, 10 ** figures - 1))
+            self.assertEqual(dealt_row(clock, (ahead, deal, behind)), even_of(clock, 10 ** figures - 1))
         long = (10 ** 29 + 1, (10 ** 29, 3, -(10 ** 29)))
         self.assertIs(lets_recall((3, ()), long, recall_of((3, ()), long)), True)
         self.assertIs(lets_recall(POINT, (10 ** 29, (7,)), recall_of(POINT, (10 ** 29, (7,)))), True)
