@@ -20,10 +20,15 @@ def has_back(clock, deal):
     return len(_lacking(clock, deal)) == 0
 
 
-def back_deal(clock, deal):
-    """The back of the deal; Unrecalled at the first piece that lacks some of the rank for it."""
+def need_back(clock, deal):
+    """Unrecalled at the first piece at which the deal lacks some of the rank that a back needs."""
     need(is_deal(clock, deal), "deal")
     lacking = _lacking(clock, deal)
     if len(lacking) > 0:
         raise Unrecalled(lacking[0])
+
+
+def back_deal(clock, deal):
+    """The back of the deal; Unrecalled if there is none."""
+    need_back(clock, deal)
     return ahead_of(clock, deal, idle_deal(clock))

@@ -8,24 +8,32 @@ from evenlater.errors import Unmade
 from evenlater.recalls import recall_of
 
 
-def made_left(clock, one, other):
-    """A deal X with X * one = other: other, then the recall of one; Unmade if there is none."""
-    need_deals(clock, one, other)
-    recall = recall_of(clock, one)
+def left_by(clock, one, recall, other):
+    """made_left, the recall of one being known."""
     made = dealt(clock, other, recall)
     if dealt(clock, made, one) != other:
         raise Unmade(taken(clock, idle_deal(clock), dealt(clock, recall, one)))
     return made
 
 
-def made_right(clock, one, other):
-    """A deal X with one * X = other: the recall of one, then other; Unmade if there is none."""
-    need_deals(clock, one, other)
-    recall = recall_of(clock, one)
+def right_by(clock, one, recall, other):
+    """made_right, the recall of one being known."""
     made = dealt(clock, recall, other)
     if dealt(clock, one, made) != other:
         raise Unmade(taken(clock, idle_deal(clock), dealt(clock, one, recall)))
     return made
+
+
+def made_left(clock, one, other):
+    """A deal X with X * one = other: other, then the recall of one; Unmade if there is none."""
+    need_deals(clock, one, other)
+    return left_by(clock, one, recall_of(clock, one), other)
+
+
+def made_right(clock, one, other):
+    """A deal X with one * X = other: the recall of one, then other; Unmade if there is none."""
+    need_deals(clock, one, other)
+    return right_by(clock, one, recall_of(clock, one), other)
 
 
 def is_made_left(clock, one, other):

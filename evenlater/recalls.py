@@ -5,12 +5,14 @@ from evenlater.dealkinds import is_deal
 from evenlater.errors import InvalidPaper
 from evenlater.mirrors import mirrored
 from evenlater.refusals import need
-from evenlater.signs import is_own_mirror
+from evenlater.signs import is_own_mirror, is_own_square
 from evenlater.solving import ahead_of
 
 
 def recall_of(clock, deal):
     """The recall of the deal."""
+    if is_own_mirror(clock, deal) and is_own_square(clock, deal):
+        return deal
     # any X with X * mirror * deal * mirror = mirror will do, and there always is one
     mirror = mirrored(clock, deal)
     return dealt(clock, ahead_of(clock, dealt_row(clock, (mirror, deal, mirror)), mirror), mirror)

@@ -185,6 +185,32 @@ betweenpapers between_paper clock one:solved other:solved
 betweenpapers lets_between clock one:zero other:zero thing:between_zero
 """
 
+STAGE_5 = """
+eveners evener_right clock deal:solved
+eveners evener_left clock deal:solved
+eveners even_many clock deal:ranked
+evenness is_evened clock one:deal other:deal
+evenness first_crowded clock one:ranked other:ranked
+nearevens nearest_even clock one:solved other:solved
+nearevens gap_even clock one:solved other:solved
+through even_through clock one:zero other:solved
+throughpapers through_paper clock one:solved other:solved
+throughpapers lets_through clock one:zero other:zero thing:through_zero
+movesthrough moves_through clock one:solved other:solved
+filling fills clock moves:moves others:moves
+filling covers clock moves:moves others:moves
+partfills part_fillers clock part:part
+partfills parts_full clock one:part other:part
+choosers chooser_of clock part:part
+choosers is_chooser clock part:part moves:moves
+coming come_after clock moves:moves many:hundred
+coming come_sizes clock moves:moves
+homes reach_of clock moves:moves
+homes home_of clock moves:moves
+homes period_of clock moves:moves
+homes settles_after clock moves:moves
+"""
+
 
 class Call:
     """One function of the interface, as the document tells it."""
@@ -212,8 +238,11 @@ class Call:
         return [[values[(k * (at + 1)) % len(values)] for at, values in enumerate(lists)] for k in range(longest)]
 
 
+STAGES = [STAGE_1, STAGE_2, STAGE_3, STAGE_4, STAGE_5]
+
+
 def calls():
-    return [Call(line) for line in (STAGE_1 + STAGE_2 + STAGE_3 + STAGE_4).splitlines() if line]
+    return [Call(line) for line in "".join(STAGES).splitlines() if line]
 
 
 def kept_triples(clock):
@@ -390,6 +419,8 @@ GOOD = {
     "side": lambda clock: ["left", "right"],
     "made_zero": lambda clock: [("made", deal) for deal in solved_deals(clock)],
     "between_zero": lambda clock: [("between", deal, deal) for deal in solved_deals(clock)],
+    "through_zero": lambda clock: [("through", deal, deal) for deal in [idle_of(clock)]],
+    "hundred": lambda clock: [0, 1, 2, 5, 100],
 }
 
 BAD_DEALS = [*JUNK, 1, (1,), (1, (1, 2, 0, 1, 2, 0), 0), [1, (1, 2, 0, 1, 2, 0)], (1, [1, 2, 0, 1, 2, 0]),
@@ -461,6 +492,7 @@ BAD = {
     "first_falls": lambda: [*JUNK, (), (1,), (0, 0), (2, 1), (1, 0, 0), [1, 0], (1, 2), (1, -1), (True, 0), (1, False),
                             (1, None), "10"],
     "solved": lambda: BAD_DEALS,
+    "hundred": lambda: BAD["number"](),
     "backed": lambda: BAD_DEALS,
     "side": lambda: [*JUNK, "", "Left", "up", "left ", ("left",), ["right"], 0, "leftright"],
 }

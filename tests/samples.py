@@ -2,6 +2,7 @@
 
 import random
 from fractions import Fraction
+from functools import lru_cache
 from itertools import combinations
 from math import gcd, lcm, prod
 
@@ -143,6 +144,25 @@ def plain_dealt(clock, one, other):
         for k in every:
             result[place[then(clock, g, k)]] += left[place[g]] * right[place[k]]
     return deal_for(result)
+
+
+@lru_cache
+def then_table(clock):
+    """For each move, by number, the numbers of this move then each move."""
+    every = moves(clock)
+    place = {move: k for k, move in enumerate(every)}
+    return [[place[then(clock, g, k)] for k in every] for g in every]
+
+
+def own_dealt(clock, one, other):
+    """one * other, from the definition, in whole numbers."""
+    weights = [0] * size(clock)
+    for left, row in zip(one[1], then_table(clock)):
+        if left:
+            for right, at in zip(other[1], row):
+                weights[at] += left * right
+    common = gcd(one[0] * other[0], *weights)
+    return one[0] * other[0] // common, tuple(weight // common for weight in weights)
 
 
 def quick_rank(rows):

@@ -27,11 +27,24 @@ CLASSES = {
         "from_many": ["clock", "many"], "read": ["clock", "text"]}),
     "Stepped": ("evenclasses", "Later", ["clock", "piece", "falls"], {"its_piece": None, "its_falls": None}),
     "Central": ("rankclasses", "Ranked", ["clock", "deal"], {"share_at": ["move"]}),
+    "Recalled": ("recallclasses", "object", ["clock", "deal"], {
+        "its_clock": None, "its_deal": None, "its_recall": None, "its_left": None, "its_right": None,
+        "made": ["other", "*side"], "between": ["other"], "joint": ["other", "*side"], "common": ["other", "*side"],
+        "swapped": [], "mirrored": [], "__contains__": 1, "__str__": 0, "__eq__": 1, "read": ["clock", "text"]}),
+    "Backed": ("recallclasses", "Recalled", ["clock", "deal"], {"power": ["many"]}),
+    "Evener": ("evenerclasses", "object", ["clock", "deal"], {
+        "its_clock": None, "its_deal": None, "right_evener": None, "left_evener": None, "evener_many": None,
+        "__call__": ["other"], "gap_to": ["other"], "pair_through": ["other"], "moves_to": ["other"], "of_mirror": [],
+        "__contains__": 1, "__and__": 1, "__str__": 0, "__eq__": 1, "of_moves": ["clock", "moves"]}),
+    "Filled": ("evenerclasses", "Evener", ["clock", "part"], {
+        "filled_part": None, "its_chooser": None, "its_fillers": None}),
 }
 
 
 def arguments(function):
-    return list(inspect.signature(function).parameters)
+    """The names of the parameters, with a star ahead of those that are passed by keyword only."""
+    told = inspect.signature(function).parameters
+    return ["*" * (value.kind is inspect.Parameter.KEYWORD_ONLY) + name for name, value in told.items()]
 
 
 class Interface(unittest.TestCase):

@@ -24,6 +24,7 @@ BARRED_NODES = (ast.GeneratorExp, ast.Lambda, ast.Yield, ast.YieldFrom, ast.Awai
                 ast.AnnAssign, ast.NamedExpr, ast.Div, ast.MatMult, ast.AsyncFunctionDef, ast.Import, ast.With)
 BARRED_WORDS = set("""type typing enum Enum Flag Generic Protocol ABC ABCMeta namedtuple NamedTuple register mro
     elements open input law version_info with_traceback add_note""".split())
+CHANGING = {"live.py", "desk.py"}
 AT_ONCE = {"zip", "enumerate", "reversed", "map"}
 TAKERS = {"list", "tuple", "dict", "sorted", "sum", "any", "all", "enumerate", "zip", "min", "max"}
 
@@ -199,7 +200,8 @@ class Language(unittest.TestCase):
                     self.assertTrue(fine, f"{path.name}:{node.lineno}")
 
     def test_changes_stay_with_what_a_function_made(self):
-        """Items are assigned only in lists that the function itself made, and attributes only in __init__."""
+        """Items are assigned only in lists that the function itself made, and attributes only in __init__, of an object
+        that the function made, or in a plain method of what is there to change."""
         for where, function in self.walk(ast.FunctionDef):
             made = {}
             for node in ast.walk(function):
@@ -211,7 +213,19 @@ class Language(unittest.TestCase):
                         values = made.get(getattr(target.value, "id", ""), [])
                         self.assertTrue(values and all(isinstance(value, kinds) for value in values), where)
                     elif isinstance(target, ast.Attribute):
-                        self.assertEqual((function.name, target.value.id), ("__init__", "self"), where)
+                        values = made.get(target.value.id, [])
+                        created = values and all(getattr(getattr(value, "func", None), "id", "") in self.classes()
+                                                 for value in values)
+                        self.assertTrue(created or self.may_change(where, function, target), where)
+
+    def classes(self):
+        return {node.name for _, node in self.walk(ast.ClassDef)}
+
+    def may_change(self, where, function, target):
+        if target.value.id != "self" or function.decorator_list:
+            return False
+        plain = not function.name.startswith("__") and where.partition(":")[0] in CHANGING
+        return function.name == "__init__" or plain
 
 
 if __name__ == "__main__":
