@@ -2,9 +2,8 @@
 
 from evenlater.coreclocks import joined
 from evenlater.kinds import is_moves, is_number
+from evenlater.moving import IDLE
 from evenlater.refusals import need
-
-IDLE = (0, 0)
 
 
 def _then_any(clock, moves, others):

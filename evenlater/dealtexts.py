@@ -16,11 +16,12 @@ def deal_line(clock, deal):
     return " ".join([HEAD, str(deal[0]), *weights])
 
 
-def _deal_in(words):
+def deal_in(words):
+    """The deal of the words of a line."""
     return int(words[1]), tuple([int(word) for word in words[2:]])
 
 
-def _may_end(clock, words):
+def may_end_deal(clock, words):
     """Whether the last one of words may stand behind those ahead of it, which a line of a deal may begin with."""
     at, last = len(words) - 1, size_in(clock) + 1
     if at == 0:
@@ -30,7 +31,7 @@ def _may_end(clock, words):
     if at > last or not is_signed_numeral(words[at]):
         return False
     # a weight still to come can be 1, so only the last one can leave a common divisor
-    return at < last or is_deal(clock, _deal_in(words))
+    return at < last or is_deal(clock, deal_in(words))
 
 
 def read_deal(clock, text):
@@ -38,8 +39,8 @@ def read_deal(clock, text):
     need(isinstance(text, str), "text")
     words = text.split(" ")
     for k in range(len(words)):
-        if not _may_end(clock, words[:k + 1]):
+        if not may_end_deal(clock, words[:k + 1]):
             raise InvalidText(0, k)
     if len(words) < size_in(clock) + 2:
         raise InvalidText(0, len(words))
-    return _deal_in(words)
+    return deal_in(words)

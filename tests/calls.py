@@ -4,6 +4,7 @@ from fractions import Fraction
 from functools import lru_cache
 from importlib import import_module
 
+from evenlater.live import LiveDeal
 from samples import DEEP_LIST, DEEP_TUPLE, JUNK, deal_for, dice, divisors, drawn_deal, drawn_move, edge
 from samples import moves, size, turned, turns
 
@@ -211,6 +212,34 @@ homes period_of clock moves:moves
 homes settles_after clock moves:moves
 """
 
+STAGE_6 = """
+homepapers home_paper clock moves:moves
+homepapers lets_home clock moves:idle_moves thing:idle_home
+spreads chance_at clock deal:plain move:move many:few
+spreads spread_of clock deal:plain
+spreads spread_after clock deal:plain many:few
+nearing comes_near clock deal:plain
+nearing near_after clock deal:plain share:quotient many:few
+nearing least_after clock deal:plain many:few
+nearpapers near_paper clock deal:plain
+nearpapers lets_near clock deal:plain_even thing:near_paper
+waits wait_for clock deal:waited move:move
+waits wait_table clock deal:waited
+waits mean_wait clock deal:waited
+waits return_wait clock deal:plain
+waitchecker lets_waits clock deal:plain_idle thing:idle_waits
+firsts first_at clock deal:plain move:move many:few
+firsts first_row clock deal:plain move:move many:few
+visits visits_by clock deal:plain move:move many:few
+liveevents is_event clock thing:thing
+liveevents is_log thing:thing
+replaying replayed log:log
+eventtexts event_line clock event:event
+eventtexts log_lines log:log
+eventtexts read_event clock text:event_text
+eventtexts read_log lines:lines
+"""
+
 
 class Call:
     """One function of the interface, as the document tells it."""
@@ -238,7 +267,7 @@ class Call:
         return [[values[(k * (at + 1)) % len(values)] for at, values in enumerate(lists)] for k in range(longest)]
 
 
-STAGES = [STAGE_1, STAGE_2, STAGE_3, STAGE_4, STAGE_5]
+STAGES = [STAGE_1, STAGE_2, STAGE_3, STAGE_4, STAGE_5, STAGE_6]
 
 
 def calls():
@@ -345,6 +374,53 @@ def fall_rows(clock):
             tuple(tuple(range(e, -1, -1)) for e in edges), tuple((e,) + (e - 1,) * e for e in edges)]
 
 
+def plain_deals(clock):
+    """Plain deals on one move, on moves of one turn, on some moves, on all moves, with few and with many figures."""
+    rng = dice(10)
+    many = size(clock)
+    single = tuple(int(move == drawn_move(clock, dice(11))) for move in moves(clock))
+    one_turn = tuple(x + 1 if t == turns(clock) - 1 else 0 for x, t in moves(clock))
+    long = (10 ** 29 + 1, (10 ** 29,) * (many - 1) + (10 ** 29 - 3,))
+    drawn = [tuple(rng.choice([0, 0, 1, 2, 9]) for _ in range(many)) for _ in range(3)]
+    return [idle_of(clock), even_of(clock), (1, single), (1, one_turn), long,
+            *[(1, row) for row in drawn if any(row)], (7, (1,) * many)]
+
+
+def waited_deals(clock):
+    return [deal for deal in plain_deals(clock) if len(str(deal)) < 200] if size(clock) <= 21 else []
+
+
+def some_events(clock):
+    """Events of the clock, one of each word ahead of those at their bounds."""
+    deal, long = some_deals(clock)[4], (10 ** 60 - 1, (1 - 10 ** 60,) * (size(clock) - 1) + (1,))
+    last, whole = (clock[0] - 1, turns(clock) - 1), (clock[0], turns(clock), 0)
+    return [("right", deal), ("left", deal), ("add", deal), ("scale", (-3, 4)), ("mirror",), ("turn", last), ("again", 2),
+            ("fold", (1, 1, 0)), ("right", long), ("left", zero_of(clock)), ("add", long), ("scale", (0, 1)),
+            ("scale", (1 - 10 ** 60, 10 ** 60 - 2)), ("turn", (0, 0)), ("again", 1), ("again", 6), ("fold", whole)]
+
+
+def line_of_event(event):
+    """The line of an event, from the definition."""
+    def told(value):
+        return " ".join(map(told, value)) if isinstance(value, tuple) else str(value)
+    return f"{event[0]} deal {told(event[1])}" if event[0] in ("right", "left", "add") else told(event)
+
+
+def some_logs(clock):
+    events = tuple(some_events(clock))
+    ends = ("fold", (clock[0], turns(clock), 0)), ("add", (2, (1,))), ("turn", (0, 0)), ("mirror",)
+    return [(("begin", clock),), (("begin", clock), *events[:8]), (("begin", clock), *ends)]
+
+
+def lines_of(log):
+    return (line_of(log[0][1]), *map(line_of_event, log[1:]))
+
+
+def shown(value):
+    """What two equal answers have in common."""
+    return repr(value) if not isinstance(value, LiveDeal) else repr((value.log(), value.deal_now(), value.tally()))
+
+
 def text_of(deal):
     return " ".join(["deal", str(deal[0]), *map(str, deal[1])])
 
@@ -421,12 +497,45 @@ GOOD = {
     "between_zero": lambda clock: [("between", deal, deal) for deal in solved_deals(clock)],
     "through_zero": lambda clock: [("through", deal, deal) for deal in [idle_of(clock)]],
     "hundred": lambda clock: [0, 1, 2, 5, 100],
+    "few": lambda clock: [0, 1, 2, 5],
+    "idle_moves": lambda clock: [((0, 0),)],
+    "idle_home": lambda clock: [("home", 1, (1, 1, 0), 1)],
+    "plain": plain_deals,
+    "plain_even": lambda clock: [even_of(clock)],
+    "near_paper": lambda clock: [("near", 1)],
+    "waited": waited_deals,
+    "plain_idle": lambda clock: [idle_of(clock)],
+    "idle_waits": lambda clock: [((0, 1),) + (None,) * (size(clock) - 1)],
+    "event": some_events,
+    "event_text": lambda clock: [line_of_event(event) for event in some_events(clock)],
+    "log": some_logs,
+    "lines": lambda clock: [lines_of(log) for log in some_logs(clock)],
 }
 
 BAD_DEALS = [*JUNK, 1, (1,), (1, (1, 2, 0, 1, 2, 0), 0), [1, (1, 2, 0, 1, 2, 0)], (1, [1, 2, 0, 1, 2, 0]),
              (1, (1, 2, 0, 1, 2)), (1, (1, 2, 0, 1, 2, 0, 0)), (2, (2, 4, 0, 2, 4, 0)), (2, (0,) * 6), (0, (1,) * 6),
              (-1, (1,) * 6), (True, (1, 2, 0, 1, 2, 0)), (1, (True, 2, 0, 1, 2, 0)), (1, (1, 2, False, 1, 2, 0)),
              (1, (1, 2, None, 1, 2, 0)), (1, ()), ("1", (1,) * 6)]
+
+BAD_PLAINS = [*BAD_DEALS, (1, (0,) * 6), (1, (1, 2, 0, -1, 2, 0)), (1, (-1,) * 6), (7, (-1, 0, 0, 0, 0, 0))]
+SOME = (1, (1, 2, 0, 1, 2, 0))
+LONG = 10 ** 60
+BAD_EVENTS = [*JUNK, (), "mirror", ["mirror"], ("mirror", ()), ("mirror", SOME), ("mirror", None), ("Mirror",), ("mirror ",),
+              ("right",), ("right", SOME, SOME), ["right", SOME], ("up", SOME), (None, SOME), (("right",), SOME),
+              (SOME, "right"), ("right", (LONG, (1,) * 6)), ("left", (1, (0, 0, LONG, 0, 0, 0))),
+              ("add", (7, (0, 0, 0, 0, 0, -LONG))), ("add", (LONG * 10 ** 39, (1,) * 6)), ("scale", SOME),
+              ("scale", (LONG, 1)), ("scale", (-LONG, 7)), ("scale", (1, LONG)), ("scale", (1, LONG * 10 ** 39)),
+              ("scale",), ("scale", 1, 2), ("scale", 2), ("turn",), ("turn", 1, 0), ("turn", 1), ("turn", (3, 0)),
+              ("again",), ("again", 0), ("again", 7), ("again", -1), ("again", True), ("again", (2,)), ("again", 2, 2),
+              ("fold",), ("fold", 3, 1, 0), ("fold", (1, 2, 0)), ("fold", (1, 2, 1)), ("begin", (3, ((2, 2),))),
+              ("fold", (3, True, 0)), ("fold", [3, 1, 0]), ("deal", SOME), ("add_deal", SOME)]
+SIX_BEGIN = ("begin", (3, ((2, 2),)))
+BAD_LOGS = [*JUNK, (), "begin", SIX_BEGIN, [SIX_BEGIN], (["begin", (3, ((2, 2),))],), (("begin",),), (("mirror",),),
+            (("begin", (3, ((2, 2),)), ()),), (("Begin", (3, ((2, 2),))),), (("begin", (3, ((2, 3),))),),
+            (("begin", None),), (("begin", (60, ((2, 1),))),), (SIX_BEGIN, SIX_BEGIN), (SIX_BEGIN, ["mirror"]),
+            (SIX_BEGIN, ("mirror",), ("again", 7)), (SIX_BEGIN, ("right", (1, (1, 2)))), (("mirror",), SIX_BEGIN),
+            (SIX_BEGIN, ("fold", (3, 1, 0)), ("right", SOME)), (SIX_BEGIN, ("fold", (3, 1, 0)), ("fold", (3, 1, 0))),
+            (SIX_BEGIN, ("fold", (3, 2, 0)), ("turn", (0, 1))), (SIX_BEGIN, ("fold", (1, 2, 0))), (SIX_BEGIN, ())]
 
 # bad values, for SIX
 BAD = {
@@ -493,6 +602,17 @@ BAD = {
                             (1, None), "10"],
     "solved": lambda: BAD_DEALS,
     "hundred": lambda: BAD["number"](),
+    "few": lambda: BAD["number"](),
+    "idle_moves": lambda: BAD["moves"](),
+    "plain": lambda: BAD_PLAINS,
+    "plain_even": lambda: BAD_PLAINS,
+    "waited": lambda: BAD_PLAINS,
+    "plain_idle": lambda: BAD_PLAINS,
+    "event": lambda: BAD_EVENTS,
+    "event_text": lambda: BAD["clock_text"](),
+    "log": lambda: BAD_LOGS,
+    "lines": lambda: [None, True, 0, "", "clock 6", [], ["clock 6"], ("clock 6", None), (0,), (("clock 6",),), DEEP_TUPLE,
+                      (True, "mirror"), ("clock 3 2 2", "mirror", ["mirror"])],
     "backed": lambda: BAD_DEALS,
     "side": lambda: [*JUNK, "", "Left", "up", "left ", ("left",), ["right"], 0, "leftright"],
 }

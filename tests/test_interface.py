@@ -5,6 +5,8 @@ import unittest
 from importlib import import_module
 
 from calls import calls
+from evenlater.live import LiveDeal
+from evenlater.recallclasses import Recalled
 
 # class: module, base, arguments, and what stands in the body of the class itself
 CLASSES = {
@@ -38,6 +40,17 @@ CLASSES = {
         "__contains__": 1, "__and__": 1, "__str__": 0, "__eq__": 1, "of_moves": ["clock", "moves"]}),
     "Filled": ("evenerclasses", "Evener", ["clock", "part"], {
         "filled_part": None, "its_chooser": None, "its_fillers": None}),
+    "Drawing": ("drawclasses", "object", ["clock", "deal"], {
+        "near_told": None, "__getitem__": 1, "__call__": ["many"], "wait_at": ["move"], "spread_at": ["many"],
+        "drawn_again": ["many"], "then_draw": ["other"], "__len__": 0, "__iter__": 0, "__contains__": 1, "__eq__": 1,
+        "of_moves": ["clock", "moves"]}),
+    "Sure": ("drawclasses", "Drawing", ["clock", "move"], {"deals_to": ["other"]}),
+    "LiveDeal": ("live", "object", ["clock"], {
+        "clock_now": [], "deal_now": [], "ranks_now": [], "after_now": [], "right": ["deal"], "left": ["deal"],
+        "add_deal": ["deal"], "scale": ["quotient"], "mirror": [], "turn": ["by"], "again": ["many"], "fold": ["part"],
+        "go": ["event"], "barred": ["event"], "tried": ["event"], "undo": ["many"], "do_all": ["events", "keep"],
+        "tally": [], "log": [], "__len__": 0, "__eq__": 1}),
+    "Desk": ("desk", "object", [], {"say": ["row"], "counts": []}),
 }
 
 
@@ -62,6 +75,13 @@ class Interface(unittest.TestCase):
             for method, told in own.items():
                 with self.subTest(name=name, method=method):
                     self.judge(known, method, told)
+
+    def test_values_of_classes_and_defaults(self):
+        self.assertEqual((LiveDeal.MOST, LiveDeal((1, ())).MOST, LiveDeal.MOST.__class__), (40, 40, int))
+        defaults = [inspect.signature(method).parameters[name].default
+                    for method, name in [(LiveDeal.undo, "many"), (LiveDeal.do_all, "keep"), (Recalled.made, "side"),
+                                         (Recalled.joint, "side"), (Recalled.common, "side")]]
+        self.assertEqual(repr(defaults), repr([1, False, "left", "left", "left"]))
 
     def judge(self, known, method, told):
         self.assertIn(method, vars(known))

@@ -3,7 +3,7 @@
 import copy
 import unittest
 
-from calls import BAD, calls
+from calls import BAD, calls, shown
 from evenlater.errors import NotUsable
 from samples import CLOCKS, SIX
 
@@ -60,7 +60,7 @@ class Refusals(unittest.TestCase):
                 told = call.function(*passed)
                 self.assertEqual(repr(passed), repr(before))
                 again = call.function(**dict(zip(call.all_params(), passed)))
-                self.assertEqual(repr(told), repr(again))
+                self.assertEqual(shown(told), shown(again))
 
 
 class Steadiness(unittest.TestCase):
@@ -69,8 +69,8 @@ class Steadiness(unittest.TestCase):
             with self.subTest(call=call.name):
                 asked = [(clock, self.one_row(call, clock)) for clock in CLOCKS[:12]]
                 asked = [(clock, row) for clock, row in asked if row is not None]
-                first = [repr(call.function(*call.first(clock), *row)) for clock, row in asked]
-                second = [repr(call.function(*call.first(clock), *row)) for clock, row in reversed(asked)]
+                first = [shown(call.function(*call.first(clock), *row)) for clock, row in asked]
+                second = [shown(call.function(*call.first(clock), *row)) for clock, row in reversed(asked)]
                 self.assertEqual(first, second[::-1])
 
     def one_row(self, call, clock):
