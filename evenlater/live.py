@@ -133,14 +133,14 @@ class LiveDeal:
     def undo(self, many=1):
         """Take the last many events back; they are returned in their order."""
         need(is_number(many), "many")
-        left = len(self._events) - many
-        if left < 0:
-            raise NothingToUndo(-left)
-        back = self._events[left:]
+        kept = len(self._events) - many
+        if kept < 0:
+            raise NothingToUndo(-kept)
+        back = self._events[kept:]
         if many > 0:
-            self._clock, self._deal = self._ahead[left]
-        self._events = self._events[:left]
-        self._ahead = self._ahead[:left]
+            self._clock, self._deal = self._ahead[kept]
+        self._events = self._events[:kept]
+        self._ahead = self._ahead[:kept]
         self._undone = self._undone + many
         return back
 

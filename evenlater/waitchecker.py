@@ -12,7 +12,7 @@ from evenlater.waits import mean_of, reach_moves
 from evenlater.weighing import moves_of
 
 
-def _check_elements(clock, reach, thing):
+def _check_each(clock, reach, thing):
     for k, move in enumerate(every_move(clock)):
         if not (thing[k] is None or is_quotient(thing[k])):
             raise InvalidPaper("wait", k)
@@ -36,7 +36,7 @@ def lets_waits(clock, deal, thing):
     if not (isinstance(thing, tuple) and len(thing) == size_in(clock)):
         raise InvalidPaper("shape", -1)
     reach = reach_moves(clock, deal)
-    _check_elements(clock, reach, thing)
+    _check_each(clock, reach, thing)
     for k, move in enumerate(every_move(clock)):
         if move in reach and thing[k] != ((0, 1) if move == IDLE else _wait_by(clock, deal, move, thing)):
             raise InvalidPaper("sum", k)

@@ -528,11 +528,12 @@ BAD_EVENTS = [*JUNK, (), "mirror", ["mirror"], ("mirror", ()), ("mirror", SOME),
               ("scale",), ("scale", 1, 2), ("scale", 2), ("turn",), ("turn", 1, 0), ("turn", 1), ("turn", (3, 0)),
               ("again",), ("again", 0), ("again", 7), ("again", -1), ("again", True), ("again", (2,)), ("again", 2, 2),
               ("fold",), ("fold", 3, 1, 0), ("fold", (1, 2, 0)), ("fold", (1, 2, 1)), ("begin", (3, ((2, 2),))),
-              ("fold", (3, True, 0)), ("fold", [3, 1, 0]), ("deal", SOME), ("add_deal", SOME)]
+              ("fold", (3, True, 0)), ("fold", [3, 1, 0]), ("unfold", (3, 1, 0)), (None, (3, 1, 0)), ("", (3, 1, 0)), ("deal", SOME), ("add_deal", SOME)]
 SIX_BEGIN = ("begin", (3, ((2, 2),)))
 BAD_LOGS = [*JUNK, (), "begin", SIX_BEGIN, [SIX_BEGIN], (["begin", (3, ((2, 2),))],), (("begin",),), (("mirror",),),
             (("begin", (3, ((2, 2),)), ()),), (("Begin", (3, ((2, 2),))),), (("begin", (3, ((2, 3),))),),
-            (("begin", None),), (("begin", (60, ((2, 1),))),), (SIX_BEGIN, SIX_BEGIN), (SIX_BEGIN, ["mirror"]),
+            (("begin", None),), (("begin", (True, ())),), (("begin", (3, ((2, 2),), 0)),),
+            (("begin", (60, ((2, 1),))),), (SIX_BEGIN, SIX_BEGIN), (SIX_BEGIN, ["mirror"]),
             (SIX_BEGIN, ("mirror",), ("again", 7)), (SIX_BEGIN, ("right", (1, (1, 2)))), (("mirror",), SIX_BEGIN),
             (SIX_BEGIN, ("fold", (3, 1, 0)), ("right", SOME)), (SIX_BEGIN, ("fold", (3, 1, 0)), ("fold", (3, 1, 0))),
             (SIX_BEGIN, ("fold", (3, 2, 0)), ("turn", (0, 1))), (SIX_BEGIN, ("fold", (1, 2, 0))), (SIX_BEGIN, ())]
